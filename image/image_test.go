@@ -14,67 +14,28 @@ import (
 	"taciturn/api"
 	"taciturn/code"
 	"taciturn/image"
+	"taciturn/sample"
 )
 
-// least is the smallest image: a name of one byte, a method of one instruction.
-func least() api.Image {
-	return api.Image{Name: "a", Methods: []api.Method{{Code: []api.Instr{{Op: code.Ret}}}}}
-}
-
-// leastBytes are least's: each count stands at its place.
+// leastBytes are sample.Least's: each count stands at its place.
 const leastBytes = "TACI\x01" + "\x01a" + "\x00" + "\x00" + "\x01" + "\x00\x00\x00" + "\x01\x27" + "\x00"
 
-// some has some of each part, each number another one where that may be.
-func some() api.Image {
-	return api.Image{
-		Name:   "pin-1.\u00e9",
-		Fields: []int{api.SecInt, api.PubArr},
-		Imports: []api.Import{
-			{Name: "log", Export: 3, Params: []int{api.PubInt, api.SecArr}, Result: api.SecInt},
-			{Name: "pin-1.\u00e9"},
-		},
-		Methods: []api.Method{
-			{Locals: []int{api.SecArr, api.PubInt}, Code: []api.Instr{{Op: code.Push, A: -2}, {Op: code.JumpIf, A: 2}, {Op: code.Ret}}},
-			{Params: []int{api.SecInt}, Result: api.PubArr, Code: []api.Instr{{Op: code.New, A: 3, B: 6}, {Op: code.Ret}}},
-		},
-		Exports: []int{1, 0, 1},
-	}
-}
-
-// someBytes are some's, part by part.
+// someBytes are sample.Some's, part by part.
 const someBytes = "TACI\x01" + "\x08pin-1.\u00e9" + "\x02\x02\x03" +
 	"\x02" + "\x03log\x03\x02\x01\x04\x02" + "\x08pin-1.\u00e9\x00\x00\x00" +
-	"\x02" + "\x00\x00\x02\x04\x01\x03" + "\x01\xff\xff\xff\xfe" + "\x18\x00\x02" + "\x27" +
+	"\x02" + "\x00\x00\x02\x04\x01\x03" + "\x01\xff\xff\xff\xfb" + "\x18\x00\x02" + "\x27" +
 	"\x01\x02\x03\x00\x02" + "\x1b\x03\x06" + "\x27" +
 	"\x03\x01\x00\x01"
 
-// most has as much of each part as there may be.
-func most() api.Image {
-	kinds := []int{4, 3, 2, 1, 4, 3, 2, 1, 4, 3}
-	i := api.Image{Name: strings.Repeat("\u00ff", 8), Fields: slices.Clone(kinds[:8]), Exports: []int{7, 7, 0, 6}}
-	for n := range 4 {
-		i.Imports = append(i.Imports, api.Import{Name: strings.Repeat("z", 16), Export: 3 - n, Params: slices.Clone(kinds[:4]), Result: n + 1})
-	}
-	for n := range 8 {
-		m := api.Method{Code: slices.Repeat([]api.Instr{{Op: code.Push, A: math.MaxInt32 - n}}, 120)}
-		if n > 0 {
-			m.Params, m.Result = slices.Clone(kinds[:4]), 4
-		}
-		m.Locals = slices.Clone(kinds[len(m.Params):])
-		i.Methods = append(i.Methods, m)
-	}
-	return i
-}
-
-// sample is an image that is right, with its name in the tests.
-type sample struct {
+// named is an image that is right, with its name in the tests.
+type named struct {
 	name string
 	make func() api.Image
 }
 
 // samples are all of them, each made anew where it is asked.
-func samples() []sample {
-	return []sample{{"least", least}, {"some", some}, {"most", most}}
+func samples() []named {
+	return []named{{"least", sample.Least}, {"some", sample.Some}, {"most", sample.Most}}
 }
 
 // isNone tells whether i is the zero value.
@@ -146,7 +107,7 @@ func TestNameBytes(t *testing.T) {
 	}
 }
 
-// turn is what is done to the image some, and how the tests name it.
+// turn is what is done to sample.Some, and how the tests name it.
 type turn struct {
 	name string
 	do   func(i *api.Image)
@@ -162,7 +123,7 @@ func kindsOf(n int) []int {
 	return slices.Repeat([]int{api.SecArr}, n)
 }
 
-// rightTurns leave some right, but turn it.
+// rightTurns leave sample.Some right, but turn it.
 func rightTurns() []turn {
 	return []turn{
 		{"another name", func(i *api.Image) { i.Name = "x" }},
@@ -207,7 +168,7 @@ func rightTurns() []turn {
 	}
 }
 
-// wrongTurns make some wrong.
+// wrongTurns make sample.Some wrong.
 func wrongTurns() []turn {
 	all := []turn{
 		{"no name", func(i *api.Image) { i.Name = "" }},
@@ -245,7 +206,7 @@ func wrongTurns() []turn {
 	return append(all, wrongNumbers()...)
 }
 
-// wrongNumbers make some wrong by a number that is no kind, or no export; some
+// wrongNumbers make sample.Some wrong by a number that is no kind, or no export; some
 // would be one once their higher bits are lost.
 func wrongNumbers() []turn {
 	all := []turn(nil)
@@ -277,7 +238,7 @@ func TestRight(t *testing.T) {
 		}
 	}
 	for _, d := range rightTurns() {
-		i := some()
+		i := sample.Some()
 		d.do(&i)
 		if !image.Right(i) {
 			t.Errorf("4.1: %s: %+v", d.name, i)
@@ -285,7 +246,7 @@ func TestRight(t *testing.T) {
 		goesRound(t, d.name, i)
 	}
 	for kind := 1; kind <= 4; kind++ {
-		i := some()
+		i := sample.Some()
 		i.Fields[0], i.Imports[0].Params[0], i.Imports[0].Result = kind, kind, kind
 		i.Methods[1].Params[0], i.Methods[1].Result, i.Methods[0].Locals[0] = kind, kind, kind
 		i.Imports[1].Export = kind - 1
@@ -299,7 +260,7 @@ func TestRight(t *testing.T) {
 // TestWrong: 4.1 and 4.2, what may not be; nothing is laid of it.
 func TestWrong(t *testing.T) {
 	for _, d := range wrongTurns() {
-		i := some()
+		i := sample.Some()
 		d.do(&i)
 		if image.Right(i) {
 			t.Errorf("4.1: %s: %+v", d.name, i)
@@ -315,7 +276,7 @@ func TestWrong(t *testing.T) {
 
 // TestExample: 4.2, the chapter's row.
 func TestExample(t *testing.T) {
-	i := least()
+	i := sample.Least()
 	i.Name = "pin-1"
 	b, e := image.Lay(i)
 	if e != api.OK || len(b) < 11 || !bytes.Equal(b[5:11], []byte{0x05, 0x70, 0x69, 0x6e, 0x2d, 0x31}) {
@@ -328,13 +289,13 @@ func TestExample(t *testing.T) {
 
 // TestLay: 4.2, each part at its place, in its bytes.
 func TestLay(t *testing.T) {
-	if b, e := image.Lay(least()); e != api.OK || string(b) != leastBytes {
+	if b, e := image.Lay(sample.Least()); e != api.OK || string(b) != leastBytes {
 		t.Errorf("4.2: %q, %d", b, e)
 	}
-	if b, e := image.Lay(some()); e != api.OK || string(b) != someBytes {
+	if b, e := image.Lay(sample.Some()); e != api.OK || string(b) != someBytes {
 		t.Errorf("4.2: %q, %d", b, e)
 	}
-	b, e := image.Lay(most())
+	b, e := image.Lay(sample.Most())
 	if want := 5 + 17 + 9 + 1 + 4*(17+1+5+1) + 1 + (1 + 1 + 11 + 1 + 600) + 7*(5+1+7+1+600) + 5; e != api.OK || len(b) != want {
 		t.Errorf("4.2: %d bytes, %d, not %d", len(b), e, want)
 	}
@@ -366,7 +327,7 @@ func TestThereAndBack(t *testing.T) {
 	if e != api.OK {
 		t.Fatalf("4.3: %d", e)
 	}
-	want := some()
+	want := sample.Some()
 	if back.Name != want.Name || !slices.Equal(back.Fields, want.Fields) || !slices.Equal(back.Exports, want.Exports) || len(back.Imports) != 2 || len(back.Methods) != 2 {
 		t.Fatalf("4.3: %+v", back)
 	}
@@ -527,81 +488,12 @@ func TestAllBytes(t *testing.T) {
 	}
 }
 
-// dice makes images by a rule, the same ones each time the tests run.
-type dice struct {
-	state uint64
-}
-
-// upTo answers a number from 0 to n.
-func (d *dice) upTo(n int) int {
-	d.state = d.state*6364136223846793005 + 1442695040888963407
-	return int(d.state>>33) % (n + 1)
-}
-
-// kinds answers at most n kinds.
-func (d *dice) kinds(n int) []int {
-	all := []int(nil)
-	for range d.upTo(n) {
-		all = append(all, 1+d.upTo(3))
-	}
-	return all
-}
-
-// name answers a name.
-func (d *dice) name() string {
-	letters := []string{"a", "z", "0", "9", "-", ".", "\u00e0", "\u00ff"}
-	s := letters[d.upTo(7)]
-	for range d.upTo(7) {
-		s += letters[d.upTo(7)]
-	}
-	return s
-}
-
-// instr answers an instruction that is right.
-func (d *dice) instr() api.Instr {
-	for {
-		i := api.Instr{Op: 1 + d.upTo(38), A: d.upTo(12) - 2}
-		if i.Op == code.New {
-			i.B = d.upTo(6)
-		}
-		if code.Operands(i.Op) == 0 {
-			i.A = 0
-		}
-		if code.Right(i) {
-			return i
-		}
-	}
-}
-
-// image answers an image that is right.
-func (d *dice) image() api.Image {
-	i := api.Image{Name: d.name(), Fields: d.kinds(8)}
-	for range d.upTo(4) {
-		i.Imports = append(i.Imports, api.Import{Name: d.name(), Export: d.upTo(3), Params: d.kinds(4), Result: d.upTo(4)})
-	}
-	for n := range 1 + d.upTo(7) {
-		m := api.Method{}
-		if n > 0 {
-			m.Params, m.Result = d.kinds(4), d.upTo(4)
-		}
-		m.Locals = d.kinds(10 - len(m.Params))
-		for range 1 + d.upTo(119) {
-			m.Code = append(m.Code, d.instr())
-		}
-		i.Methods = append(i.Methods, m)
-	}
-	for range d.upTo(4) {
-		i.Exports = append(i.Exports, d.upTo(len(i.Methods)-1))
-	}
-	return i
-}
-
 // TestAnyImages: 4.1, 4.3 and W5, images of all kinds, and their bytes with some
 // of them turned.
 func TestAnyImages(t *testing.T) {
-	d := &dice{state: 4}
+	d := sample.NewDice(4)
 	for range 300 {
-		i := d.image()
+		i := d.Image()
 		if !image.Right(i) {
 			t.Errorf("4.1: %+v", i)
 		}
@@ -609,8 +501,8 @@ func TestAnyImages(t *testing.T) {
 		good, _ := image.Lay(i)
 		for range 30 {
 			b := bytes.Clone(good)
-			for range 1 + d.upTo(2) {
-				b[d.upTo(len(b)-1)] = byte(d.upTo(255))
+			for range 1 + d.UpTo(2) {
+				b[d.UpTo(len(b)-1)] = byte(d.UpTo(255))
 			}
 			stands(t, b)
 		}
@@ -626,54 +518,32 @@ func TestSame(t *testing.T) {
 		}
 	}
 	for _, d := range append(rightTurns(), wrongTurns()...) {
-		i, again := some(), some()
+		i, again := sample.Some(), sample.Some()
 		d.do(&i)
 		d.do(&again)
-		if image.Same(i, some()) || image.Same(some(), i) {
+		if image.Same(i, sample.Some()) || image.Same(sample.Some(), i) {
 			t.Errorf("4: %s: the same", d.name)
 		}
 		if !image.Same(i, again) {
 			t.Errorf("4: %s: not the same twice", d.name)
 		}
 	}
-	empty := least()
-	empty.Fields, empty.Imports, empty.Exports = []int{}, []api.Import{}, []int{}
-	empty.Methods[0].Params, empty.Methods[0].Locals = []int{}, []int{}
-	if !image.Same(empty, least()) || !image.Same(least(), empty) || !image.Right(empty) {
+	empty := sample.Empty()
+	if !image.Same(empty, sample.Least()) || !image.Same(sample.Least(), empty) || !image.Right(empty) {
 		t.Error("R2: nil and an empty list")
 	}
 	if b, e := image.Lay(empty); e != api.OK || string(b) != leastBytes {
 		t.Errorf("R2: empty lists are laid as %q, %d", b, e)
 	}
-	if !image.Same(api.Image{}, api.Image{Methods: []api.Method{}}) || image.Same(api.Image{}, least()) {
+	if !image.Same(api.Image{}, api.Image{Methods: []api.Method{}}) || image.Same(api.Image{}, sample.Least()) {
 		t.Error("R2: none and an empty list")
-	}
-}
-
-// roomy answers some in lists with spare room, and a call that tells whether
-// that room, and what stands ahead of it, is as it was.
-func roomy() (api.Image, func() bool) {
-	i := some()
-	numbers := []*[]int{&i.Fields, &i.Exports, &i.Imports[0].Params, &i.Methods[0].Locals, &i.Methods[1].Params}
-	for _, list := range numbers {
-		*list = append(*list, 77)[:len(*list)]
-	}
-	i.Imports = append(i.Imports, api.Import{Name: "room"})[:2]
-	i.Methods = append(i.Methods, api.Method{Result: 77})[:2]
-	i.Methods[0].Code = append(i.Methods[0].Code, api.Instr{Op: 77})[:3]
-	return i, func() bool {
-		whole := image.Same(i, some())
-		for _, list := range numbers {
-			whole = whole && (*list)[:len(*list)+1][len(*list)] == 77
-		}
-		return whole && i.Imports[:3][2].Name == "room" && i.Methods[:3][2].Result == 77 && i.Methods[0].Code[:4][3].Op == 77
 	}
 }
 
 // TestHandedIn: R2, what is handed in is not changed, nor kept, nor is its
 // spare room looked at.
 func TestHandedIn(t *testing.T) {
-	i, whole := roomy()
+	i, whole := sample.Roomy()
 	b, e := image.Lay(i)
 	if e != api.OK || string(b) != someBytes || !image.Right(i) || !image.Same(i, i) || !whole() {
 		t.Errorf("R2: %q, %d", b, e)
@@ -691,15 +561,15 @@ func TestHandedIn(t *testing.T) {
 	for at := range room {
 		room[at] = 255
 	}
-	if !image.Same(back, some()) {
+	if !image.Same(back, sample.Some()) {
 		t.Errorf("R2: bytes that were handed in were kept: %+v", back)
 	}
 }
 
 // TestAnswers: R2, no two lists of an answer share memory, nor do two answers.
 func TestAnswers(t *testing.T) {
-	first, _ := image.Lay(some())
-	second, _ := image.Lay(some())
+	first, _ := image.Lay(sample.Some())
+	second, _ := image.Lay(sample.Some())
 	first = first[:cap(first)]
 	for at := range first {
 		first[at] = 255
@@ -708,43 +578,15 @@ func TestAnswers(t *testing.T) {
 		t.Errorf("R2: %q", second)
 	}
 	b := []byte(someBytes)
-	for n := range len(numbersOf(some())) {
-		other, _ := image.Read(b)
-		turned, _ := image.Read(b)
-		list := numbersOf(turned)[n]
-		was := slices.Clone(list)
-		for at := range list[:cap(list)] {
-			list[:cap(list)][at] = 77
-		}
-		copy(list, was)
-		if !image.Same(turned, some()) || !image.Same(other, some()) || string(b) != someBytes {
-			t.Errorf("R2: list %d is shared", n)
-		}
+	other, _ := image.Read(b)
+	turned, _ := image.Read(b)
+	if !sample.Apart(turned) {
+		t.Error("R2: two lists of an answer share memory")
 	}
-	for n := range 2 {
-		turned, _ := image.Read(b)
-		list := turned.Methods[n].Code
-		was := slices.Clone(list)
-		for at := range list[:cap(list)] {
-			list[:cap(list)][at] = api.Instr{Op: 77}
-		}
-		copy(list, was)
-		if !image.Same(turned, some()) || string(b) != someBytes {
-			t.Errorf("R2: method %d's code is shared", n)
-		}
+	sample.Spoil(turned)
+	if !image.Same(other, sample.Some()) || string(b) != someBytes {
+		t.Error("R2: two answers share memory")
 	}
-}
-
-// numbersOf answers i's lists of numbers.
-func numbersOf(i api.Image) [][]int {
-	all := [][]int{i.Fields, i.Exports}
-	for _, m := range i.Imports {
-		all = append(all, m.Params)
-	}
-	for _, m := range i.Methods {
-		all = append(all, m.Params, m.Locals)
-	}
-	return all
 }
 
 // TestRunes: the chapter's Ways, names by range over a string: IsName ranges

@@ -17,35 +17,14 @@ import (
 	"taciturn/api"
 	"taciturn/code"
 	"taciturn/image"
+	"taciturn/sample"
 	"taciturn/text"
 )
 
-// least is the smallest image: a name of one byte, a method of one instruction.
-func least() api.Image {
-	return api.Image{Name: "a", Methods: []api.Method{{Code: []api.Instr{{Op: code.Ret}}}}}
-}
-
-// leastText is least's.
+// leastText is sample.Least's.
 const leastText = "applet a\nmethod none\n  ret\n"
 
-// some has some of each part, each number another one where that may be.
-func some() api.Image {
-	return api.Image{
-		Name:   "pin-1.\u00e9",
-		Fields: []int{api.SecInt, api.PubArr},
-		Imports: []api.Import{
-			{Name: "log", Export: 3, Params: []int{api.PubInt, api.SecArr}, Result: api.SecInt},
-			{Name: "pin-1.\u00e9"},
-		},
-		Methods: []api.Method{
-			{Locals: []int{api.SecArr, api.PubInt}, Code: []api.Instr{{Op: code.Push, A: -5}, {Op: code.JumpIf, A: 2}, {Op: code.Ret}}},
-			{Params: []int{api.SecInt}, Result: api.PubArr, Code: []api.Instr{{Op: code.New, A: 3, B: 6}, {Op: code.Ret}}},
-		},
-		Exports: []int{1, 0, 1},
-	}
-}
-
-// someText is some's, as it is printed.
+// someText is sample.Some's, as it is printed.
 const someText = "applet pin-1.\u00e9\n" +
 	"field sec\nfield puba\n" +
 	"import log 3 sec pub seca\nimport pin-1.\u00e9 0 none\n" +
@@ -53,25 +32,7 @@ const someText = "applet pin-1.\u00e9\n" +
 	"method puba sec\n  new 3 6\n  ret\n" +
 	"export 1\nexport 0\nexport 1\n"
 
-// most has as much of each part as there may be.
-func most() api.Image {
-	kinds := []int{4, 3, 2, 1, 4, 3, 2, 1, 4, 3}
-	i := api.Image{Name: strings.Repeat("\u00ff", 8), Fields: slices.Clone(kinds[:8]), Exports: []int{7, 7, 0, 6}}
-	for n := range 4 {
-		i.Imports = append(i.Imports, api.Import{Name: strings.Repeat("z", 16), Export: 3 - n, Params: slices.Clone(kinds[:4]), Result: n + 1})
-	}
-	for n := range 8 {
-		m := api.Method{Code: slices.Repeat([]api.Instr{{Op: code.Push, A: math.MinInt32 + n}}, 120)}
-		if n > 0 {
-			m.Params, m.Result = slices.Clone(kinds[:4]), 4
-		}
-		m.Locals = slices.Clone(kinds[len(m.Params):])
-		i.Methods = append(i.Methods, m)
-	}
-	return i
-}
-
-// mostText is most's.
+// mostText is sample.Most's.
 func mostText() string {
 	s := "applet " + strings.Repeat("\u00ff", 8) + "\n"
 	for _, kind := range []string{"seca", "puba", "sec", "pub", "seca", "puba", "sec", "pub"} {
@@ -146,7 +107,7 @@ func TestPrint(t *testing.T) {
 	cases := []struct {
 		i    api.Image
 		want string
-	}{{least(), leastText}, {some(), someText}, {most(), mostText()}}
+	}{{sample.Least(), leastText}, {sample.Some(), someText}, {sample.Most(), mostText()}}
 	for _, c := range cases {
 		if s, e := text.Print(c.i); e != api.OK || s != c.want {
 			t.Errorf("5.1: %q, %d, not %q", s, e, c.want)
@@ -168,7 +129,7 @@ func TestInstructions(t *testing.T) {
 		case code.Operands(op) > 0:
 			i.A, words = 1, words+" 1"
 		}
-		want := least()
+		want := sample.Least()
 		want.Methods[0].Code = []api.Instr{i}
 		s := "applet a\nmethod none\n  " + words + "\n"
 		if got, e := text.Print(want); e != api.OK || got != s {
@@ -225,7 +186,7 @@ func TestPrintWrong(t *testing.T) {
 		func(i *api.Image) { i.Exports[0] = -1 },
 	}
 	for n, turn := range turns {
-		i := some()
+		i := sample.Some()
 		turn(&i)
 		if s, e := text.Print(i); e != api.ErrArg || s != "" {
 			t.Errorf("5.1: turn %d: %q, %d", n, s, e)
@@ -236,11 +197,11 @@ func TestPrintWrong(t *testing.T) {
 // TestBlanks: 5.2, one or more between words, ahead and behind; nothing else
 // parts words.
 func TestBlanks(t *testing.T) {
-	taken(t, "applet a\nmethod none\nret\n", least())
-	taken(t, "  applet  a  \n   method   none   \n ret \n", least())
+	taken(t, "applet a\nmethod none\nret\n", sample.Least())
+	taken(t, "  applet  a  \n   method   none   \n ret \n", sample.Least())
 	wide := strings.ReplaceAll(strings.ReplaceAll(someText, " ", "    "), "\n", "  \n ")
-	taken(t, wide, some())
-	taken(t, strings.ReplaceAll(someText, "\n  ", "\n"), some())
+	taken(t, wide, sample.Some())
+	taken(t, strings.ReplaceAll(someText, "\n  ", "\n"), sample.Some())
 	for _, r := range []string{"\t", "\r", "\v", "\f", "\u00a0", "\u0085", "\u2028", "\u3000", "\x00", ",", "\\n"} {
 		refused(t, "applet"+r+"a\nmethod none\nret\n", 1)
 		refused(t, r+"applet a\nmethod none\nret\n", 1)
@@ -255,11 +216,11 @@ func TestBlanks(t *testing.T) {
 // TestLines: 5.2, which lines there are, and that those without words are
 // passed over, but counted.
 func TestLines(t *testing.T) {
-	taken(t, "applet a\nmethod none\nret", least())
-	taken(t, "\n\n \napplet a\n\n     \nmethod none\n\nret\n\n\n", least())
-	taken(t, strings.ReplaceAll(someText, "\n", "\n\n"), some())
+	taken(t, "applet a\nmethod none\nret", sample.Least())
+	taken(t, "\n\n \napplet a\n\n     \nmethod none\n\nret\n\n\n", sample.Least())
+	taken(t, strings.ReplaceAll(someText, "\n", "\n\n"), sample.Some())
 	taken(t, "applet a\nmethod none\n\nlocals pub\n\nret\n", func() api.Image {
-		i := least()
+		i := sample.Least()
 		i.Methods[0].Locals = []int{api.PubInt}
 		return i
 	}())
@@ -278,9 +239,9 @@ func TestLines(t *testing.T) {
 
 // TestRemarks: 5.2, from a # on the line is passed over, and no more than it.
 func TestRemarks(t *testing.T) {
-	taken(t, "# first\napplet a# its name\nmethod none #\nret#ret\n#", least())
-	taken(t, "###\napplet a # # b\nmethod none#pub\n  #ret\n ret   #\tx\xff\xfe\n# export 9", least())
-	taken(t, strings.ReplaceAll(someText, "\n", "#\u00e9\xc3\n"), some())
+	taken(t, "# first\napplet a# its name\nmethod none #\nret#ret\n#", sample.Least())
+	taken(t, "###\napplet a # # b\nmethod none#pub\n  #ret\n ret   #\tx\xff\xfe\n# export 9", sample.Least())
+	taken(t, strings.ReplaceAll(someText, "\n", "#\u00e9\xc3\n"), sample.Some())
 	refused(t, "#applet a\nmethod none\nret\n", 2)
 	refused(t, "applet #a\nmethod none\nret\n", 1)
 	refused(t, "applet a\nmethod #none\nret\n", 2)
@@ -381,7 +342,7 @@ func TestNames(t *testing.T) {
 		}
 	}
 	for _, name := range []string{"a", "-", ".", "0", "applet", "none", "-0", "0123456789-.abcd", "\u00e0\u00e1\u00e2\u00e3\u00e4\u00e5\u00fe\u00ff"} {
-		want := least()
+		want := sample.Least()
 		want.Name, want.Imports = name, []api.Import{{Name: name, Result: api.PubInt}}
 		taken(t, "applet "+name+"\nimport "+name+" 0 pub\nmethod none\nret\n", want)
 	}
@@ -395,7 +356,7 @@ func TestNames(t *testing.T) {
 // are told behind the last line.
 func TestNumbers(t *testing.T) {
 	for _, n := range []int{0, 1, -1, 9, -9, 10, -10, 99, 100, 255, 65536, 1000000000, 2147483647, -2147483648, -2147483647, 1234567890} {
-		want := least()
+		want := sample.Least()
 		want.Methods[0].Code[0] = api.Instr{Op: code.Push, A: n}
 		taken(t, "applet a\nmethod none\npush "+strconv.Itoa(n), want)
 	}
@@ -452,8 +413,8 @@ func TestNotRight(t *testing.T) {
 
 // TestMost: 5.2, as much of each part as there may be is taken.
 func TestMost(t *testing.T) {
-	taken(t, mostText(), most())
-	i := least()
+	taken(t, mostText(), sample.Most())
+	i := sample.Least()
 	i.Methods = append(i.Methods, api.Method{Params: []int{1, 2, 3, 4}, Locals: slices.Repeat([]int{4}, 6), Code: slices.Repeat([]api.Instr{{Op: code.Pop}}, 120)})
 	i.Exports = []int{1, 1, 1, 1}
 	s := leastText + "method none pub sec puba seca\nlocals" + strings.Repeat(" seca", 6) + "\n" + strings.Repeat("pop\n", 120) + strings.Repeat("export 1\n", 4)
@@ -558,44 +519,28 @@ func TestPieces(t *testing.T) {
 	}
 }
 
-// dice makes texts and images by a rule, the same ones each time the tests run.
-type dice struct {
-	state uint64
-}
-
-// upTo answers a number from 0 to n.
-func (d *dice) upTo(n int) int {
-	d.state = d.state*6364136223846793005 + 1442695040888963407
-	return int(d.state>>33) % (n + 1)
-}
-
-// oneOf answers one of some words.
-func (d *dice) oneOf(words ...string) string {
-	return words[d.upTo(len(words)-1)]
-}
-
-// word answers a word, at its place or not.
-func (d *dice) word() string {
-	return d.oneOf("applet", "field", "import", "method", "locals", "export", "push", "new", "ret", "pop", "none", "pub", "sec", "puba", "seca", "0", "1", "-1", "-0", "01", "3", "10", "a", "\u00e9", "A", "#", "\n", "\n", " ", "")
+// anyWord answers a word, at its place or not.
+func anyWord(d *sample.Dice) string {
+	return d.OneOf("applet", "field", "import", "method", "locals", "export", "push", "new", "ret", "pop", "none", "pub", "sec", "puba", "seca", "0", "1", "-1", "-0", "01", "3", "10", "a", "\u00e9", "A", "#", "\n", "\n", " ", "")
 }
 
 // turned answers s with some words turned, left out, laid twice, or with others
 // between.
-func (d *dice) turned(s string) string {
+func turned(d *sample.Dice, s string) string {
 	words := strings.SplitAfter(strings.ReplaceAll(s, "\n", " \n "), " ")
-	for range 1 + d.upTo(2) {
-		at := d.upTo(len(words) - 1)
-		switch d.upTo(4) {
+	for range 1 + d.UpTo(2) {
+		at := d.UpTo(len(words) - 1)
+		switch d.UpTo(4) {
 		case 0:
-			words[at] = d.word() + " "
+			words[at] = anyWord(d) + " "
 		case 1:
 			words[at] = ""
 		case 2:
 			words[at] += words[at]
 		case 3:
-			words[at] += d.word() + " "
+			words[at] += anyWord(d) + " "
 		case 4:
-			other := d.upTo(len(words) - 1)
+			other := d.UpTo(len(words) - 1)
 			words[at], words[other] = words[other], words[at]
 		}
 	}
@@ -604,10 +549,10 @@ func (d *dice) turned(s string) string {
 
 // TestTurned: 5.2 and 5.3, texts with words turned; some of them are taken.
 func TestTurned(t *testing.T) {
-	r, d, all := newReader(), &dice{state: 5}, 0
+	r, d, all := newReader(), sample.NewDice(5), 0
 	for range 4000 {
 		for _, s := range []string{leastText, someText} {
-			if r.holds(t, d.turned(s)) {
+			if r.holds(t, turned(d, s)) {
 				all++
 			}
 		}
@@ -619,80 +564,21 @@ func TestTurned(t *testing.T) {
 
 // TestAnyWords: 5.2, texts of any words.
 func TestAnyWords(t *testing.T) {
-	r, d := newReader(), &dice{state: 6}
+	r, d := newReader(), sample.NewDice(6)
 	for range 20000 {
-		s := d.oneOf("", "applet a\n", "applet a\nmethod none\n", leastText)
-		for range d.upTo(8) {
-			s += d.word() + " "
+		s := d.OneOf("", "applet a\n", "applet a\nmethod none\n", leastText)
+		for range d.UpTo(8) {
+			s += anyWord(d) + " "
 		}
 		r.holds(t, s)
 	}
 }
 
-// kinds answers at most n kinds.
-func (d *dice) kinds(n int) []int {
-	all := []int(nil)
-	for range d.upTo(n) {
-		all = append(all, 1+d.upTo(3))
-	}
-	return all
-}
-
-// name answers a name.
-func (d *dice) name() string {
-	s := d.oneOf("a", "z", "0", "9", "-", ".", "\u00e0", "\u00ff")
-	for range d.upTo(7) {
-		s += d.oneOf("a", "z", "0", "9", "-", ".", "\u00e0", "\u00ff")
-	}
-	return s
-}
-
-// instr answers an instruction that is right.
-func (d *dice) instr() api.Instr {
-	for {
-		i := api.Instr{Op: 1 + d.upTo(38), A: d.upTo(12) - 2}
-		switch {
-		case i.Op == code.New:
-			i.B = d.upTo(6)
-		case i.Op == code.Push:
-			i.A = d.upTo(math.MaxUint32) + math.MinInt32
-		case code.Operands(i.Op) == 0:
-			i.A = 0
-		}
-		if code.Right(i) {
-			return i
-		}
-	}
-}
-
-// image answers an image that is right.
-func (d *dice) image() api.Image {
-	i := api.Image{Name: d.name(), Fields: d.kinds(8)}
-	for range d.upTo(4) {
-		i.Imports = append(i.Imports, api.Import{Name: d.name(), Export: d.upTo(3), Params: d.kinds(4), Result: d.upTo(4)})
-	}
-	for n := range 1 + d.upTo(7) {
-		m := api.Method{}
-		if n > 0 {
-			m.Params, m.Result = d.kinds(4), d.upTo(4)
-		}
-		m.Locals = d.kinds(10 - len(m.Params))
-		for range 1 + d.upTo(119) {
-			m.Code = append(m.Code, d.instr())
-		}
-		i.Methods = append(i.Methods, m)
-	}
-	for range d.upTo(4) {
-		i.Exports = append(i.Exports, d.upTo(len(i.Methods)-1))
-	}
-	return i
-}
-
 // TestAnyImages: 5.3, images of all kinds are parsed to the same.
 func TestAnyImages(t *testing.T) {
-	r, d := newReader(), &dice{state: 7}
+	r, d := newReader(), sample.NewDice(7)
 	for range 100 {
-		i := d.image()
+		i := d.Image()
 		s, e := text.Print(i)
 		if e != api.OK || strings.Contains(s, "\n\n") || !strings.HasSuffix(s, "\n") {
 			t.Errorf("5.1: %q, %d", s, e)
@@ -702,45 +588,16 @@ func TestAnyImages(t *testing.T) {
 	}
 }
 
-// numbersOf answers i's lists of numbers.
-func numbersOf(i api.Image) [][]int {
-	all := [][]int{i.Fields, i.Exports}
-	for _, m := range i.Imports {
-		all = append(all, m.Params)
-	}
-	for _, m := range i.Methods {
-		all = append(all, m.Params, m.Locals)
-	}
-	return all
-}
-
-// filled fills a list, its spare room too, and then lays what stood in it again.
-func filled[T any](list []T, with T) {
-	was := slices.Clone(list)
-	whole := list[:cap(list)]
-	for at := range whole {
-		whole[at] = with
-	}
-	copy(list, was)
-}
-
 // TestAnswers: R2, no two lists of an answer share memory, nor do two answers.
 func TestAnswers(t *testing.T) {
-	for n := range len(numbersOf(some())) {
-		other, _, _ := text.Parse(someText)
-		turned, _, _ := text.Parse(someText)
-		filled(numbersOf(turned)[n], 77)
-		if !image.Same(turned, some()) || !image.Same(other, some()) {
-			t.Errorf("R2: list %d is shared", n)
-		}
+	other, _, _ := text.Parse(someText)
+	turned, _, _ := text.Parse(someText)
+	if !sample.Apart(turned) {
+		t.Error("R2: two lists of an answer share memory")
 	}
-	for n := range 2 {
-		other, _, _ := text.Parse(someText)
-		turned, _, _ := text.Parse(someText)
-		filled(turned.Methods[n].Code, api.Instr{Op: 77})
-		if !image.Same(turned, some()) || !image.Same(other, some()) {
-			t.Errorf("R2: method %d's code is shared", n)
-		}
+	sample.Spoil(turned)
+	if !image.Same(other, sample.Some()) {
+		t.Error("R2: two answers share memory")
 	}
 }
 
@@ -760,28 +617,11 @@ func TestNamesAreCopies(t *testing.T) {
 // TestHandedIn: R2, what is printed is not changed, nor is its spare room looked
 // at; nil and an empty list are the same.
 func TestHandedIn(t *testing.T) {
-	i := some()
-	numbers := []*[]int{&i.Fields, &i.Exports, &i.Imports[0].Params, &i.Methods[0].Locals, &i.Methods[1].Params}
-	for _, list := range numbers {
-		*list = append(*list, 77)[:len(*list)]
-	}
-	i.Imports = append(i.Imports, api.Import{Name: "room"})[:2]
-	i.Methods = append(i.Methods, api.Method{Result: 77})[:2]
-	i.Methods[0].Code = append(i.Methods[0].Code, api.Instr{Op: 77})[:3]
-	if s, e := text.Print(i); e != api.OK || s != someText {
+	i, whole := sample.Roomy()
+	if s, e := text.Print(i); e != api.OK || s != someText || !whole() {
 		t.Errorf("R2: %q, %d", s, e)
 	}
-	whole := image.Same(i, some())
-	for _, list := range numbers {
-		whole = whole && (*list)[:len(*list)+1][len(*list)] == 77
-	}
-	if !whole || i.Imports[:3][2].Name != "room" || i.Methods[:3][2].Result != 77 || i.Methods[0].Code[:4][3].Op != 77 {
-		t.Errorf("R2: what was handed in is changed: %+v", i)
-	}
-	empty := least()
-	empty.Fields, empty.Imports, empty.Exports = []int{}, []api.Import{}, []int{}
-	empty.Methods[0].Params, empty.Methods[0].Locals = []int{}, []int{}
-	if s, e := text.Print(empty); e != api.OK || s != leastText {
+	if s, e := text.Print(sample.Empty()); e != api.OK || s != leastText {
 		t.Errorf("R2: empty lists: %q, %d", s, e)
 	}
 }

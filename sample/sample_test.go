@@ -1,0 +1,77 @@
+package sample_test
+
+import (
+	"testing"
+
+	"taciturn/api"
+	"taciturn/image"
+	"taciturn/sample"
+)
+
+// TestSamples: each is right, made anew, and has no list twice.
+func TestSamples(t *testing.T) {
+	for n, make := range []func() api.Image{sample.Least, sample.Empty, sample.Some, sample.Most, sample.NewDice(1).Image} {
+		i := make()
+		if !image.Right(i) || !sample.Apart(i) {
+			t.Errorf("sample %d: %+v", n, i)
+		}
+		sample.Spoil(i)
+		if !image.Right(make()) {
+			t.Errorf("sample %d is not made anew", n)
+		}
+	}
+}
+
+// TestApart: lists that share memory are seen, in their spare room too.
+func TestApart(t *testing.T) {
+	turns := []func(i *api.Image){
+		func(i *api.Image) { i.Methods[1].Params = i.Fields[:1] },
+		func(i *api.Image) { i.Imports[0].Params = i.Exports[1:] },
+		func(i *api.Image) { i.Exports, i.Fields = i.Exports[2:], i.Exports[:2] },
+		func(i *api.Image) { i.Methods[0].Code = i.Methods[1].Code[1:] },
+		func(i *api.Image) { i.Methods[0].Locals, i.Fields = i.Fields[1:], i.Fields[:0] },
+	}
+	for n, turn := range turns {
+		i := sample.Some()
+		turn(&i)
+		if sample.Apart(i) {
+			t.Errorf("turn %d is not seen", n)
+		}
+	}
+}
+
+// TestRoomy: what is written into a list, or behind it, is seen.
+func TestRoomy(t *testing.T) {
+	turns := []func(i api.Image){
+		func(i api.Image) { i.Fields[0] = 1 },
+		func(i api.Image) { _ = append(i.Fields, 1) },
+		func(i api.Image) { _ = append(i.Exports, 1) },
+		func(i api.Image) { _ = append(i.Imports[0].Params, 1) },
+		func(i api.Image) { _ = append(i.Imports, api.Import{}) },
+		func(i api.Image) { _ = append(i.Methods, api.Method{}) },
+		func(i api.Image) { _ = append(i.Methods[0].Code, api.Instr{}) },
+	}
+	for n, turn := range turns {
+		i, whole := sample.Roomy()
+		if !whole() {
+			t.Errorf("turn %d: not whole ahead of it", n)
+		}
+		turn(i)
+		if whole() {
+			t.Errorf("turn %d is not seen", n)
+		}
+	}
+}
+
+// TestDice: the same images each time, and not one alone.
+func TestDice(t *testing.T) {
+	d, again := sample.NewDice(3), sample.NewDice(3)
+	last := sample.Least()
+	for range 50 {
+		i := d.Image()
+		if !image.Right(i) || !image.Same(i, again.Image()) || image.Same(i, last) {
+			t.Errorf("%+v", i)
+		}
+		last = i
+	}
+}
