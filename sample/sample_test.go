@@ -6,6 +6,7 @@ import (
 	"taciturn/api"
 	"taciturn/image"
 	"taciturn/sample"
+	"taciturn/verify"
 )
 
 // TestSamples: each is right, made anew, and has no list twice.
@@ -73,5 +74,33 @@ func TestDice(t *testing.T) {
 			t.Errorf("%+v", i)
 		}
 		last = i
+	}
+}
+
+// TestTaken: images that verify takes, the same ones each time, each with lists of
+// its own, and not of the others that it is told.
+func TestTaken(t *testing.T) {
+	d, again := sample.NewDice(3), sample.NewDice(3)
+	imports := 0
+	for range 50 {
+		i := d.Taken("a", nil)
+		other := d.Taken("b", []api.Image{i})
+		for _, one := range []api.Image{i, other} {
+			if where, e := verify.Verify(one); e != api.OK || !sample.Apart(one) {
+				t.Errorf("%+v: %d at %+v", one, e, where)
+			}
+		}
+		imports += len(other.Imports)
+		same := again.Taken("a", nil)
+		if !image.Same(i, same) || !image.Same(other, again.Taken("b", []api.Image{same})) || image.Same(i, other) {
+			t.Errorf("%+v, and %+v", i, other)
+		}
+		sample.Spoil(other)
+		if !image.Same(i, same) {
+			t.Errorf("%+v has a list of another one", i)
+		}
+	}
+	if imports < 50 {
+		t.Errorf("%d imports, too few to tell", imports)
 	}
 }
