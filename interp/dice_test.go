@@ -152,24 +152,6 @@ func (w *teller) makes(applet int, name string, in api.Instr, cut func(int) []in
 	return whole(int64(n))
 }
 
-// fleet answers applets by dice, which call one another.
-func fleet(dice *sample.Dice) []api.Image {
-	all := []api.Image(nil)
-	for k := range 1 + dice.UpTo(3) {
-		all = append(all, dice.Taken(fmt.Sprint("a", k), all))
-	}
-	return all
-}
-
-// bytesOf answers some bytes.
-func bytesOf(dice *sample.Dice, n int) []byte {
-	all := []byte{}
-	for range n {
-		all = append(all, byte(dice.UpTo(255)))
-	}
-	return all
-}
-
 // heights answers of each method of each applet how high the stack is at each pc,
 // as verify says.
 func heights(t *testing.T, all []api.Image) map[[3]int]int {
@@ -232,12 +214,12 @@ func TestByDice(t *testing.T) {
 	seen := map[string]int{}
 	for start := range 500 {
 		dice := sample.NewDice(uint64(start))
-		all := fleet(dice)
+		all := dice.Fleet()
 		high := heights(t, all)
 		size := 64 + dice.UpTo(1500)
 		r, other := roomOf(t, size, all...), roomOf(t, size, all...)
 		for range 8 {
-			public, secret := bytesOf(dice, 3+dice.UpTo(4)), bytesOf(dice, 3+dice.UpTo(4))
+			public, secret := dice.Bytes(3+dice.UpTo(4)), dice.Bytes(3+dice.UpTo(4))
 			r.Begin(public, secret)
 			other.Begin(public, secret)
 			applet, fuel := dice.UpTo(len(all)-1), dice.UpTo(700)
@@ -271,13 +253,13 @@ func TestNothingShows(t *testing.T) {
 	parted := 0
 	for start := range 1500 {
 		dice := sample.NewDice(uint64(start) + 1<<40)
-		all := fleet(dice)
+		all := dice.Fleet()
 		size := 64 + dice.UpTo(1500)
 		r, other := roomOf(t, size, all...), roomOf(t, size, all...)
 		for range 3 {
-			public, secret := bytesOf(dice, 3+dice.UpTo(4)), bytesOf(dice, 3+dice.UpTo(4))
+			public, secret := dice.Bytes(3+dice.UpTo(4)), dice.Bytes(3+dice.UpTo(4))
 			r.Begin(public, secret)
-			other.Begin(public, bytesOf(dice, len(secret)))
+			other.Begin(public, dice.Bytes(len(secret)))
 			applet, fuel := dice.UpTo(len(all)-1), dice.UpTo(500)
 			one, two := machine(t, r, applet, fuel), machine(t, other, applet, fuel)
 			if one.Run() != two.Run() || one.Fuel() != two.Fuel() || one.Depth() != two.Depth() {
@@ -310,7 +292,7 @@ func TestRefusedByDice(t *testing.T) {
 		for range 4 {
 			r.Add(dice.Image())
 		}
-		r.Begin(bytesOf(dice, 5), bytesOf(dice, 5))
+		r.Begin(dice.Bytes(5), dice.Bytes(5))
 		for k := range 4 {
 			fuel := dice.UpTo(300)
 			m := machine(t, r, k, fuel)

@@ -28,6 +28,15 @@ func (d *Dice) OneOf(words ...string) string {
 	return words[d.UpTo(len(words)-1)]
 }
 
+// Bytes answers n bytes.
+func (d *Dice) Bytes(n int) []byte {
+	all := []byte(nil)
+	for range n {
+		all = append(all, byte(d.UpTo(math.MaxUint8)))
+	}
+	return all
+}
+
 // Kinds answers at most n kinds.
 func (d *Dice) Kinds(n int) []int {
 	all := []int(nil)

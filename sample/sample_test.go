@@ -1,10 +1,12 @@
 package sample_test
 
 import (
+	"bytes"
 	"testing"
 
 	"taciturn/api"
 	"taciturn/image"
+	"taciturn/link"
 	"taciturn/sample"
 	"taciturn/verify"
 )
@@ -102,5 +104,33 @@ func TestTaken(t *testing.T) {
 	}
 	if imports < 50 {
 		t.Errorf("%d imports, too few to tell", imports)
+	}
+}
+
+// TestFleet: as many images as a room may have at most, that verify takes, the
+// same ones each time, that call one another; and bytes.
+func TestFleet(t *testing.T) {
+	d, again := sample.NewDice(3), sample.NewDice(3)
+	counts, imports := map[int]int{}, 0
+	for range 40 {
+		all, same := d.Fleet(), again.Fleet()
+		counts[len(all)]++
+		for k, i := range all {
+			if _, e := verify.Verify(i); e != api.OK || !image.Same(i, same[k]) || link.Find(all, i.Name) != k {
+				t.Errorf("image %d: %d, %+v", k, e, i)
+			}
+			for n := range i.Imports {
+				if _, _, ok := link.Resolve(all, k, n); ok {
+					imports++
+				}
+			}
+		}
+		if b := d.Bytes(9); len(b) != 9 || !bytes.Equal(b, again.Bytes(9)) || bytes.Equal(b, d.Bytes(9)) {
+			t.Errorf("bytes %v", b)
+		}
+		again.Bytes(9)
+	}
+	if counts[1] == 0 || counts[api.MaxApplets] == 0 || len(counts) != api.MaxApplets || imports < 40 {
+		t.Errorf("counts %v, %d imports", counts, imports)
 	}
 }

@@ -2,6 +2,7 @@ package sample
 
 import (
 	"math"
+	"strconv"
 
 	"taciturn/api"
 	"taciturn/code"
@@ -37,6 +38,16 @@ func (d *Dice) Taken(name string, others []api.Image) api.Image {
 			return i
 		}
 	}
+}
+
+// Fleet answers images, as many as a room may have at most, that verify takes and
+// that call one another.
+func (d *Dice) Fleet() []api.Image {
+	all := []api.Image(nil)
+	for k := range 1 + d.UpTo(api.MaxApplets-1) {
+		all = append(all, d.Taken("a"+strconv.Itoa(k), all))
+	}
+	return all
 }
 
 // signed answers an image whose methods have no code yet.
